@@ -359,7 +359,7 @@ func TestBytesOfWrongPrograms(t *testing.T) {
 	}
 }
 
-// places are where the counts of the bytes of a program stand that has one function without a name and two instructions, one print with a text, and one select with an arm.
+// Each count of a program that has one function without a name and two instructions, one print with a text, and one select with an arm.
 func TestCountsThatAreTooGreat(t *testing.T) {
 	p := one(beat, ret)
 	p.Funcs[0].Name = ""

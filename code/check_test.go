@@ -230,7 +230,7 @@ func TestSizesOfFunctions(t *testing.T) {
 	}
 }
 
-// within a function of 3 slots that has a result or not, with the instruction at number 1, behind a return: so it is dead, and what it takes does not matter.
+// dressed is a program whose function 2 has this instruction as the number 3, behind a return: so it is dead, and what it takes does not matter.
 func dressed(i api.Ins, result bool, slots int) api.Program {
 	p := funcs(4)
 	last := ret
