@@ -183,25 +183,92 @@ func TestDrop(t *testing.T) {
 	}
 }
 
-// P16.1: lockers and joiners are the waits of two rows, whoever put them there; waits of other rows keep nothing there.
+// keeps is what Drop answers of one of a kind, where somebody else waits at that side of its handle.
+var keeps = []struct {
+	kind api.Kind
+	side api.Side
+	want api.Errno
+}{
+	{api.KindMutex, api.SideSend, api.OK},
+	{api.KindMutex, api.SideRecv, api.OK},
+	{api.KindMutex, api.SideLock, api.ErrLocksWaits},
+	{api.KindMutex, api.SideJoin, api.OK},
+	{api.KindGroup, api.SideSend, api.OK},
+	{api.KindGroup, api.SideRecv, api.OK},
+	{api.KindGroup, api.SideLock, api.OK},
+	{api.KindGroup, api.SideJoin, api.ErrLocksWaits},
+}
+
+// P16.1: lockers are what a mutex has, joiners what a wait group has, whoever put them there; waits of other rows keep nothing there, and stay.
 func TestDropWaitsOfOthers(t *testing.T) {
-	for _, kind := range []api.Kind{api.KindMutex, api.KindGroup} {
-		for _, side := range []api.Side{api.SideSend, api.SideRecv, api.SideLock, api.SideJoin} {
+	x := hd(3, 1)
+	for _, k := range keeps {
+		for _, crowd := range []bool{false, true} {
 			r := made(t)
-			x := hd(1, 1)
-			r.make(x, kind)
-			r.put(row(x, side), who(5), 9, num(1))
-			r.put(row(none, api.SideLock), who(6), 0, num(1))
-			r.put(row(none, api.SideJoin), who(6), 1, num(1))
-			r.put(row(hd(1, 2), api.SideLock), who(7), 0, num(1))
-			r.put(row(hd(2, 1), api.SideJoin), who(7), 1, num(1))
-			if side == api.SideLock || side == api.SideJoin {
-				r.wrongDrop(x, api.ErrLocksWaits)
-				r.b.Leave(who(5))
+			r.make(x, k.kind)
+			r.put(row(x, k.side), who(5), 0, num(1))
+			if crowd {
+				r.elsewhere(x)
 			}
-			r.drop(x)
+			r.dropOr(x, k.want)
 		}
 	}
+}
+
+// P16.1: as above, where what is dropped is held or has a counter.
+func TestDropUsedWaitsOfOthers(t *testing.T) {
+	x := hd(3, 1)
+	for _, k := range keeps {
+		r := made(t)
+		r.make(x, k.kind)
+		if k.kind == api.KindMutex {
+			r.lock(who(4), x, done())
+		} else {
+			r.add(x, 2, done())
+		}
+		r.put(row(x, k.side), who(5), 9, num(1))
+		r.dropOr(x, k.want)
+	}
+}
+
+// P16.1: who waits at all sides of a handle keeps it by the one that is its own; without that one the others keep nothing.
+func TestDropWaitsAtAllSides(t *testing.T) {
+	x := hd(3, 1)
+	for kind, own := range map[api.Kind]api.Side{api.KindMutex: api.SideLock, api.KindGroup: api.SideJoin} {
+		r := made(t)
+		r.make(x, kind)
+		for side := api.SideSend; side <= api.SideJoin; side++ {
+			r.put(row(x, side), who(int(side)), int(side), num(1))
+		}
+		r.wrongDrop(x, api.ErrLocksWaits)
+		r.b.Leave(who(int(own)))
+		r.drop(x)
+		if r.b.Count() != 3 {
+			t.Errorf("kind %d: %d waits are left", kind, r.b.Count())
+		}
+	}
+}
+
+// elsewhere lets others wait at all sides of handles that are not x.
+func (r *rig) elsewhere(x api.Handle) {
+	r.t.Helper()
+	for i, h := range []api.Handle{none, hd(x.Slot, x.Gen+1), hd(x.Slot+1, x.Gen)} {
+		for side := api.SideSend; side <= api.SideJoin; side++ {
+			r.put(row(h, side), who(6+i), int(side), num(1))
+		}
+	}
+}
+
+// dropOr drops x, if want is OK; else it is asked to, and refuses.
+func (r *rig) dropOr(x api.Handle, want api.Errno) {
+	r.t.Helper()
+	if want == api.OK {
+		r.drop(x)
+		return
+	}
+	r.wrongDrop(x, want)
+	r.b.Leave(who(5))
+	r.drop(x)
 }
 
 // P16.1: a handle that nothing has is no kind, and who waits there makes none.

@@ -67,10 +67,14 @@ func (m *model) make(h api.Handle, kind api.Kind) api.Errno {
 }
 
 func (m *model) drop(h api.Handle) api.Errno {
-	if m.find(h, 0) == nil {
+	x := m.find(h, 0)
+	if x == nil {
 		return api.ErrLocksHandle
 	}
-	if len(m.those(h, api.SideLock))+len(m.those(h, api.SideJoin)) > 0 {
+	if x.kind == api.KindMutex && len(m.those(h, api.SideLock)) > 0 {
+		return api.ErrLocksWaits
+	}
+	if x.kind == api.KindGroup && len(m.those(h, api.SideJoin)) > 0 {
 		return api.ErrLocksWaits
 	}
 	m.things = slices.DeleteFunc(m.things, func(x modelThing) bool { return x.h == h })
